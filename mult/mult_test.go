@@ -327,8 +327,8 @@ func TestAgainstTheLibrary(t *testing.T) {
 	}
 }
 
-// TestPublished: keys and shared secrets of RFC 5903, RFC 7027 and RFC 6979, and a
-// key of K256 that is told with many of its programs.
+// TestPublished: keys and shared secrets of RFC 5903 and RFC 7027, and a key of
+// K256 that is told with many of its programs.
 func TestPublished(t *testing.T) {
 	for i, c := range []struct {
 		id              int
@@ -355,10 +355,6 @@ func TestPublished(t *testing.T) {
 		{
 			id: api.CurveK256, d: "aa5e28d6a97a2479a65527f7290311a3624d4cc0fa1578598ee3c2613bf99522",
 			wx: "34f9460f0e4f08393d192b3c5133a6ba099aa0ad9fd54ebccfacdfa239ff49c6", wy: "0b71ea9bd730fd8923f6d25a7a91e7dd7728a960686cb5a901bb419e0f2ca232",
-		},
-		{
-			id: api.CurveP192, d: "6fab034934e4c0fc9ae67f5b5659a9d7d1fefd187ee09fd4",
-			wx: "ac2c77f529f91689fea0ea5efec7f210d8eea0b9e047ed56", wy: "3bc723e57670bd4887ebc732c523063d0a7c957bc97c1c43",
 		},
 	} {
 		m := models()[c.id-1]
